@@ -1,0 +1,1 @@
+"""Erased with all that came of it, whole."""
