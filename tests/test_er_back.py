@@ -1,6 +1,6 @@
 import unittest
 
-from callmaker import ABSENT, COUNTED, DENIED, LARGEST, PLAIN, WRONG, back, give, last, make, run, start, tail, use
+from callmaker import ABSENT, COUNTED, DENIED, LARGEST, PLAIN, WRONG, back, give, last, make, start, tail, use
 
 
 class TestRefusals(unittest.TestCase):

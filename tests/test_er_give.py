@@ -1,7 +1,6 @@
 import unittest
 
-from callmaker import FULL, LARGEST, WRONG, back, give, last, make, run, start, tail, use
-from erasedall.desk import Desk
+from callmaker import FULL, LARGEST, WRONG, back, days, give, last, make, run, start, tail, use
 
 
 class TestErGive(unittest.TestCase):
@@ -26,12 +25,8 @@ class TestErGive(unittest.TestCase):
             self.assertEqual(last(start(2), give(0, 1, until)), answer, until)
 
     def test_until_today_and_the_day_before(self):
-        desk = Desk()
-        desk.er_start(2)
-        desk.today = 7
-        self.assertEqual(desk.er_give(0, 1, 6), WRONG)
-        self.assertEqual(desk.er_give(0, 1, 0), WRONG)
-        self.assertEqual(desk.er_give(0, 1, 7), 0)
+        calls = [start(2), days(7), give(0, 1, 6), give(0, 1, 0), give(0, 1, 7), give(0, 1, 8)]
+        self.assertEqual(tail(4, *calls), [WRONG, WRONG, 0, 1])
 
     def test_what_is_given_has_just_its_purposes(self):
         uses = [use(0, purpose) for purpose in range(16)]

@@ -1,7 +1,6 @@
 import unittest
 
-from callmaker import COUNTED, LARGEST, WRONG, back, give, last, make, run, start, tail, use
-from erasedall.desk import Desk
+from callmaker import COUNTED, LARGEST, WRONG, back, days, give, last, make, of, person, run, start, tail, use, why
 
 
 class TestErStart(unittest.TestCase):
@@ -19,6 +18,8 @@ class TestErStart(unittest.TestCase):
     def test_starting_again_leaves_no_items(self):
         calls = [start(2), give(0, 1), give(1, 1), start(2), use(0, 0), use(1, 0), back(0, 1), make(0, 1, 0)]
         self.assertEqual(run(*calls), [0, 0, 1, 0, -2, -2, -2, -2])
+        calls = [start(2), give(0, 1), give(1, 1), start(2), of(0), person(0), why(0), days(366)]
+        self.assertEqual(tail(5, *calls), [0, 0, 0, -2, 0])
 
     def test_starting_again_numbers_from_0(self):
         self.assertEqual(run(start(2), give(0, 1), give(1, 1), start(3), give(2, 1)), [0, 0, 1, 0, 0])
@@ -37,11 +38,8 @@ class TestErStart(unittest.TestCase):
         self.assertEqual(last(start(3), start(2), *counted_of_two), 1)
 
     def test_starting_again_is_at_day_0(self):
-        desk = Desk()
-        desk.er_start(2)
-        desk.today = 7
-        self.assertEqual(desk.er_start(2), 0)
-        self.assertEqual(desk.er_give(0, 1, 0), 0)
+        calls = [start(2), days(7), start(2), give(0, 1, 0), days(1), why(0)]
+        self.assertEqual(tail(4, *calls), [0, 0, 1, (1, 3, 0, 1)])
 
     def test_a_refused_start_keeps_the_items(self):
         for many in (0, 1, 65, LARGEST):
@@ -54,11 +52,8 @@ class TestErStart(unittest.TestCase):
         self.assertEqual(last(start(3), start(1), *counted_of_two), 2)
 
     def test_a_refused_start_keeps_the_day(self):
-        desk = Desk()
-        desk.er_start(2)
-        desk.today = 7
-        self.assertEqual(desk.er_start(65), WRONG)
-        self.assertEqual(desk.er_give(0, 1, 6), WRONG)
+        calls = [start(2), days(7), start(65), give(0, 1, 6), give(0, 1, 7), days(1), why(0)]
+        self.assertEqual(tail(5, *calls), [WRONG, WRONG, 0, 1, (1, 3, 0, 8)])
 
 
 if __name__ == "__main__":
